@@ -1,0 +1,1 @@
+"""Hingehall: doors that swing as one walks through."""
