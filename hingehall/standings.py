@@ -21,6 +21,37 @@ def is_step(cells, value):
     return is_number(walker) and 0 <= walker < len(cells) and way in WAYS
 
 
+def are_places(hall, many, value):
+    """Whether the value is a tuple of so many unlike cells."""
+    if not isinstance(value, tuple) or len(value) != many:
+        return False
+    for number, cell in enumerate(value):
+        if not is_cell(hall, cell) or cell in value[:number]:
+            return False
+    return True
+
+
+def are_ways(hall, value):
+    """Whether the value is a text by which each door stands on an edge of its own, where no wall is."""
+    if not isinstance(value, str) or len(value) != len(hall[3]):
+        return False
+    for sign in value:
+        if sign not in WAYS:
+            return False
+    edges = door_edges(hall, value)
+    for number, edge in enumerate(edges):
+        if not is_edge(hall, edge) or edge in hall[2] or edge in edges[:number]:
+            return False
+    return True
+
+
+def is_standing(hall, many, value):
+    """Whether the value is a standing of so many walkers and of the hall's doors."""
+    if not isinstance(value, tuple) or len(value) != 2:
+        return False
+    return are_places(hall, many, value[0]) and are_ways(hall, value[1])
+
+
 def swung_ways(hall, ways, door, way):
     """The ways of all doors when one has swung to a way, or None if it can't swing there."""
     row, column, _ = hall[3][door]
@@ -47,6 +78,13 @@ def step_done(hall, standing, step):
     if swung is None:
         return None
     return ((moved, swung), door)
+
+
+def step_tried(hall, standing, value):
+    """As step_done, of any value: None also for what is no step of one of the walkers."""
+    if not is_step(standing[0], value):
+        return None
+    return step_done(hall, standing, value)
 
 
 def moves_from(hall, standing):

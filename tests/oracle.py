@@ -4,6 +4,7 @@ It shares no code with the program: an edge is the set of its two corners here,
 and ways are found by trying every one until none gets better.
 """
 
+import itertools
 import random
 
 OFFSETS = {"e": (0, 1), "n": (-1, 0), "s": (1, 0), "w": (0, -1)}
@@ -138,6 +139,22 @@ def meets(standing, goal):
     return all(cell is None or standing[0][walker] == cell for walker, cell in enumerate(goal))
 
 
+def lifted(hall, cells, goal, most, most_standings):
+    """The doors without which a goal can be met, None, or "too many"."""
+    numbers = range(len(hall[3]))
+    chosen = [doors for many in numbers for doors in itertools.combinations(numbers, many)] + [tuple(numbers)]
+    for doors in sorted(chosen, key=lambda doors: (len(doors), doors)):
+        if len(doors) <= most:
+            left = tuple(door for number, door in enumerate(hall[3]) if number not in doors)
+            model = Model(hall[:3] + (left,), cells)
+            found = model.come_to(model.first, most_standings)
+            if found is None:
+                return "too many"
+            if any(meets(standing, goal) for standing in found):
+                return doors
+    return None
+
+
 def made_hall(chance, most_side, most_walls, most_doors):
     """A hall of the chance handed in: the same for the same seed."""
     rows, columns = chance.randint(1, most_side), chance.randint(1, most_side)
@@ -172,3 +189,18 @@ def made_places(seed, many, most_standings, most_side=3, most_walls=4, most_door
         if Model(hall, cells).come_to((cells, "".join(door[2] for door in hall[3])), most_standings) is not None:
             places.append((hall, cells, made_goal(chance, hall, cells)))
     return places
+
+
+def moved_place(hall, cells, rows, columns, moved):
+    """Hall and cells when each corner has moved to another, in a hall of so many rows and columns."""
+    edges = inner_edges(rows, columns)
+    walls = []
+    for row, column, sign in hall[2]:
+        ends = (row, column), (row, column + 1) if sign == "-" else (row + 1, column)
+        walls.append(edges[frozenset(moved(end) for end in ends)])
+    doors = []
+    for row, column, way in hall[3]:
+        hinge, tip = moved((row, column)), moved(shifted((row, column), way))
+        doors.append(hinge + tuple(sign for sign in OFFSETS if shifted(hinge, sign) == tip))
+    places = tuple(min(moved(corner) for corner in corners(cell)) for cell in cells)
+    return (rows, columns, tuple(walls), tuple(doors)), places

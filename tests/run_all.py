@@ -6,17 +6,28 @@ import sys
 import unittest
 
 
+def forget_beside(path, known):
+    """Forget what a file imported from beside it: another folder may have a helper of the same name."""
+    for name, module in list(sys.modules.items()):
+        place = getattr(module, "__file__", None)
+        if name not in known and place is not None and pathlib.Path(place).resolve().parent == path.parent:
+            del sys.modules[name]
+
+
 def loaded(path, number):
     """The tests of one file, under a name of its own: two folders may have files of one name."""
+    known = list(sys.modules)
     name = f"{path.stem}_{number}"
     spec = importlib.util.spec_from_file_location(name, path)
     module = importlib.util.module_from_spec(spec)
     sys.modules[name] = module
+    known.append(name)
     sys.path.insert(0, str(path.parent))
     try:
         spec.loader.exec_module(module)
     finally:
         sys.path.remove(str(path.parent))
+        forget_beside(path, known)
     return unittest.defaultTestLoader.loadTestsFromModule(module)
 
 

@@ -2,8 +2,12 @@
 
 import unittest
 
+from hingehall.bench import Bench
 from hingehall.errors import BadCells, BadHall
+from hingehall.notes import written
+from hingehall.papers import lifted, paper, shows
 from hingehall.steps import may, walk
+from hingehall.turning import mirrored, turned
 from hingehall.ways import far, gentlest, lost, oneway, reached, shortest, still
 
 # All that takes a hall and cells, with a goal for one walker where one is asked.
@@ -17,6 +21,23 @@ ASKED = {
     "still": still,
     "oneway": oneway,
     "lost": lambda hall, cells: lost(hall, cells, (None,)),
+    "paper": lambda hall, cells: paper(hall, cells, (None,)),
+    "shows": lambda hall, cells: shows(hall, cells, (None,), []),
+    "lifted": lambda hall, cells: lifted(hall, cells, (None,)),
+    "turned": turned,
+    "mirrored": mirrored,
+    "Bench": Bench,
+    "written": written,
+}
+# What is handed in behind hall and cells can't be, either.
+ASKED_WRONG = {
+    "walk": lambda hall, cells: walk(hall, cells, None),
+    "shortest": lambda hall, cells: shortest(hall, cells, None),
+    "gentlest": lambda hall, cells: gentlest(hall, cells, None),
+    "lost": lambda hall, cells: lost(hall, cells, None),
+    "paper": lambda hall, cells: paper(hall, cells, None),
+    "shows": lambda hall, cells: shows(hall, cells, None, None),
+    "lifted": lambda hall, cells: lifted(hall, cells, None, most=None),
 }
 START = ((0, 0),)
 
@@ -237,9 +258,19 @@ class Cells(Refusing):
             for asked in (shortest, gentlest, lost):
                 with self.assertRaises(BadHall):
                     asked((2, 3, (), (None,)), cells, None)
-            for asked in (reached, still, oneway):
+            for asked in (reached, still, oneway, turned, mirrored, Bench, written):
                 with self.assertRaises(BadHall):
                     asked((2, 3, ((0, 0, "-"),), ()), cells)
+
+    def test_hall_and_cells_are_refused_ahead_of_all_else(self):
+        for name, asked in ASKED_WRONG.items():
+            with self.subTest(asked=name):
+                with self.assertRaises(BadHall) as caught:
+                    asked((2, 3, (), ((1, 1, "n"), None)), None)
+                self.assertEqual((caught.exception.part, caught.exception.number), (3, 1))
+                with self.assertRaises(BadCells) as caught:
+                    asked((2, 3, (), ((1, 1, "n"),)), ((0, 0), None))
+                self.assertEqual(caught.exception.number, 1)
 
 
 if __name__ == "__main__":

@@ -2,27 +2,16 @@
 
 import unittest
 
+from examples import MANY, MANY_CELLS, ROUND, TOO_MANY, TOO_MANY_CELLS, TRAP, TRAPPED, VALVE
 from hingehall.errors import BadCells, BadGoal, BadHall, TooMany
+from hingehall.papers import lifted, paper, shows
 from hingehall.steps import may, walk
 from hingehall.ways import far, gentlest, lost, oneway, reached, shortest, still
 
-ROUND = (2, 2, (), ((1, 1, "n"),))
-# From (0, 1) to (0, 0) the door swings for good: a wall keeps all from coming round behind it.
-VALVE = (2, 2, ((1, 1, "|"),), ((1, 1, "n"),))
-# Three rows: (0, 0), (1, 0), (2, 0) below each other, and (1, 1) beside the middle one. Door 0 never swings
-# (its corner is at the hall's side); door 1 lies below (0, 0), and from below it swings onto door 0 only.
-TRAP = (3, 2, ((1, 1, "-"), (2, 1, "-"), (2, 1, "|")), ((0, 1, "s"), (1, 1, "w")))
-TRAPPED = ((2, 0), (0, 0))
-
-# From the first standing one step leads on, for good: behind it exactly 4000 standings can be come to, so 4001 here.
-TOO_MANY = (5, 5, ((0, 2, "|"), (1, 2, "-"), (1, 3, "-"), (3, 3, "|")),
-            ((2, 1, "s"), (3, 0, "e"), (4, 1, "n"), (0, 3, "s"), (2, 2, "w"), (2, 1, "w")))
-TOO_MANY_CELLS = ((2, 0),)
-# Exactly 4000.
-MANY = (5, 5, ((2, 2, "|"),), ((3, 4, "w"), (2, 1, "n"), (2, 3, "e"), (2, 2, "n")))
-MANY_CELLS = ((2, 3),)
-
 WITH_GOAL = {"shortest": shortest, "gentlest": gentlest, "lost": lost}
+# Wherever a goal is handed in; what is handed in behind it can't be, either.
+GOALED = {**WITH_GOAL, "paper": paper, "shows": lambda hall, cells, goal: shows(hall, cells, goal, None),
+          "lifted": lambda hall, cells, goal: lifted(hall, cells, goal, most=None)}
 WITHOUT = {"reached": reached, "far": far, "still": still, "oneway": oneway}
 
 
@@ -38,7 +27,7 @@ def behind(hall, cells, done):
 
 class Goals(unittest.TestCase):
     def refused(self, hall, cells, goal, number):
-        for name, asked in WITH_GOAL.items():
+        for name, asked in GOALED.items():
             with self.subTest(asked=name, goal=goal):
                 with self.assertRaises(BadGoal) as caught:
                     asked(hall, cells, goal)
@@ -83,7 +72,7 @@ class Goals(unittest.TestCase):
         self.refused((2, 3, (), ()), ((0, 0), (0, 1)), ((9, 9), (9, 9)), 0)
 
     def test_hall_and_cells_are_refused_ahead(self):
-        for name, asked in WITH_GOAL.items():
+        for name, asked in GOALED.items():
             with self.subTest(asked=name):
                 with self.assertRaises(BadHall):
                     asked((2, 3, ((0, 0, "-"),), ()), None, None)
@@ -306,7 +295,7 @@ class TooManyStandings(unittest.TestCase):
                 asked(hall, cells, cells)
 
     def test_too_many_is_refused_behind_all_else(self):
-        for asked in WITH_GOAL.values():
+        for asked in GOALED.values():
             with self.assertRaises(BadGoal):
                 asked(TOO_MANY, TOO_MANY_CELLS, ((5, 0),))
             with self.assertRaises(BadGoal):
