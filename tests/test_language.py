@@ -1,4 +1,4 @@
-"""The rules of LANGUAGE.md over all files of the package, each test by the number of its rule.
+"""Many of the rules of LANGUAGE.md over all files of the package, each test by the number of its rule.
 
 Where a rule allows more than the package uses, the test allows what the package uses.
 """
